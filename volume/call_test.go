@@ -1,0 +1,136 @@
+package volume_test
+
+import (
+	"strconv"
+	"testing"
+
+	"spindle/api"
+	"spindle/volume"
+)
+
+// call is a call of a volume as plain data: read, fetch, write, zero, keep (a zero that keeps), trim, sync, flush, extents or peek.
+type call struct {
+	name string
+	off  uint64
+	n    int
+	fill int // of a write: which bytes
+}
+
+func (c call) String() string {
+	return c.name + "(" + strconv.FormatUint(c.off, 10) + ", " + strconv.Itoa(c.n) + ")"
+}
+
+// bytes are those that a write lays down: no two fills alike, none 0.
+func (c call) bytes() []byte {
+	b := make([]byte, c.n)
+	for i := range b {
+		b[i] = 1 + byte((c.fill*91+i*7+i/251)%255)
+	}
+	return b
+}
+
+// answer is what a call has answered.
+type answer struct {
+	bytes []byte
+	runs  []api.Extent
+	at    uint64
+	e     api.Errno
+}
+
+func (c call) of(t *testing.T, v *volume.Volume) answer {
+	t.Helper()
+	var a answer
+	n := uint64(c.n)
+	switch c.name {
+	case "read":
+		a.bytes, a.at, a.e = v.Read(c.off, c.n)
+	case "fetch":
+		a.at, a.e = v.Fetch(c.off, n)
+	case "write":
+		a.at, a.e = v.Write(c.off, c.bytes())
+	case "zero":
+		a.at, a.e = v.Zero(c.off, n, false)
+	case "keep":
+		a.at, a.e = v.Zero(c.off, n, true)
+	case "trim":
+		a.at, a.e = v.Trim(c.off, n)
+	case "sync":
+		a.e = v.Sync(c.off, n)
+	case "flush":
+		a.e = v.Flush()
+	case "extents":
+		a.runs, a.at, a.e = v.Extents(c.off, n)
+	case "peek":
+		a.bytes, a.e = v.Peek(c.off, c.n)
+	default:
+		t.Fatal("no such call:", c.name)
+	}
+	if a.e != api.OK && len(a.bytes)+len(a.runs) > 0 {
+		t.Errorf("%v: %d bytes and %d runs beside error %d", c, len(a.bytes), len(a.runs), a.e)
+	}
+	return a
+}
+
+// play makes calls that go well.
+func play(t *testing.T, v *volume.Volume, calls ...call) {
+	t.Helper()
+	for _, c := range calls {
+		a := c.of(t, v)
+		wantEnd(t, c.String(), a.at, a.e, 0, api.OK)
+	}
+}
+
+// changed gives the array that a call makes of another one, byte by byte (P7.10).
+func (c call) changed(array []byte) []byte {
+	out := append([]byte(nil), array...)
+	for i, b := range c.bytes() {
+		at := int(c.off) + i
+		switch c.name {
+		case "write":
+			out[at] = b
+		case "zero", "keep":
+			out[at] = 0
+		case "trim":
+			if c.covers(at / api.SectorSize) {
+				out[at] = 0
+			}
+		}
+	}
+	return out
+}
+
+// covers tells whether all bytes of a sector lie in the range.
+func (c call) covers(sector int) bool {
+	for i := range api.SectorSize {
+		if !c.has(sector*api.SectorSize + i) {
+			return false
+		}
+	}
+	return true
+}
+
+// touches tells whether one of a sector's bytes lies in the range.
+func (c call) touches(sector int) bool {
+	for i := range api.SectorSize {
+		if c.has(sector*api.SectorSize + i) {
+			return true
+		}
+	}
+	return false
+}
+
+func (c call) has(at int) bool { return at >= int(c.off) && at < int(c.off)+c.n }
+
+// first is the first byte of the range that lies in a sector.
+func (c call) first(sector int) uint64 {
+	at := sector * api.SectorSize
+	for !c.has(at) {
+		at++
+	}
+	return uint64(at)
+}
+
+// bytesOf are those of one sector of an array.
+func bytesOf(array []byte, sector int) []byte {
+	return array[sector*api.SectorSize:][:api.SectorSize]
+}
