@@ -15,8 +15,8 @@ import (
 
 const root = ".."
 
-// layers stand in the order of building: each may import those ahead of it, and api.
-var layers = strings.Fields("octet extent disk recent cache label volume track overlay wire frame nego rule reply flight conn server client judge audit trace copier mirror backup engine console")
+// layers stand in the order of building: each may import those ahead of it, and api. Package words, which is no layer, stands behind the one that it calls.
+var layers = strings.Fields("octet words extent disk recent cache label volume track overlay wire frame nego rule reply flight conn server client judge audit trace copier mirror backup engine console")
 
 // library is what of Go's library the program may import.
 var library = strings.Fields("bytes cmp container/heap errors iter maps math math/big math/bits slices sort strconv strings sync sync/atomic unicode unicode/utf8")
