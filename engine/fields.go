@@ -12,27 +12,8 @@ func readNothing(*reading) {}
 
 func readDisk(g *reading) { g.script.Sectors = g.Int() }
 
-// The bits of an export's flags.
-const (
-	flagReadOnly = 1 << iota
-	flagRotational
-	flagPrivate
-	flagTracked
-	allFlags = flagReadOnly | flagRotational | flagPrivate | flagTracked
-)
-
 func readExport(g *reading) {
-	var x api.Export
-	x.Name = g.Quoted()
-	x.Sectors = g.Int()
-	x.Min = g.U32()
-	x.Pref = g.U32()
-	flags := g.Number(allFlags)
-	x.ReadOnly = flags&flagReadOnly != 0
-	x.Rotational = flags&flagRotational != 0
-	x.Private = flags&flagPrivate != 0
-	x.Tracked = flags&flagTracked != 0
-	x.Desc = g.Quoted()
+	x := g.Export()
 	if len(g.script.Label.Exports) == api.MaxExports {
 		g.Fail()
 		return

@@ -5,35 +5,41 @@ import (
 
 	"spindle/api"
 	"spindle/octet"
+	"spindle/words"
 )
+
+// A page is the text that tells a report.
+type page struct {
+	words.Page
+}
 
 // addHeard writes what came of a line.
 func (p *page) addHeard(h api.Heard) {
 	if h.Err != api.OK {
-		p.add(errorText(h.Err))
+		p.Add(errorText(h.Err))
 	}
 	if h.Cookie != 0 {
-		p.add("cookie", number(h.Cookie))
+		p.Add("cookie", number(h.Cookie))
 	}
 	for i := range min(len(h.Answers), len(h.Steps)) {
-		p.add(answerWords(h.Steps[i], h.Answers[i])...)
+		p.Add(answerWords(h.Steps[i], h.Answers[i])...)
 	}
 	for _, v := range h.Events {
-		p.add(append([]string{"heard"}, eventWords(v)...)...)
+		p.Add(append([]string{"heard"}, eventWords(v)...)...)
 	}
 }
 
 // addEnd writes how all stands at the end.
 func (p *page) addEnd(r api.Report) {
 	if r.Up {
-		p.add("up")
+		p.Add("up")
 	} else {
-		p.add("down")
+		p.Add("down")
 	}
 	for i, b := range r.Exports {
-		p.add("export", strconv.Itoa(i), strconv.Itoa(len(b)), sumOf(b))
+		p.Add("export", strconv.Itoa(i), strconv.Itoa(len(b)), sumOf(b))
 	}
-	p.add("queue", strconv.Itoa(r.Queue))
+	p.Add("queue", strconv.Itoa(r.Queue))
 }
 
 // sumOf gives the digits of a check sum's four bytes.

@@ -6,32 +6,22 @@ import (
 
 	"spindle/api"
 	"spindle/octet"
+	"spindle/words"
 )
-
-// A page is a text that is being written, line by line.
-type page struct {
-	text strings.Builder
-}
-
-// add writes a line, with a blank between its words.
-func (p *page) add(words ...string) {
-	p.text.WriteString(strings.Join(words, " "))
-	p.text.WriteByte('\n')
-}
 
 // written gives a script's text. Of a script that no text says it is a text that is refused, or says another script.
 func written(s api.Script) string {
-	var out page
-	out.add("disk", strconv.Itoa(s.Sectors))
+	var out words.Page
+	out.Add("disk", strconv.Itoa(s.Sectors))
 	for _, x := range s.Label.Exports {
-		out.add("export", octet.Quote(x.Name), strconv.Itoa(x.Sectors), number(x.Min), number(x.Pref), number(flagsOf(x)), octet.Quote(x.Desc))
+		out.Add(append([]string{"export"}, words.OfExport(x)...)...)
 	}
 	c := s.Config
-	out.add("config", strconv.Itoa(c.Lines), strconv.Itoa(c.Conns), number(c.Limits.Payload), number(c.Limits.Option), strconv.Itoa(c.Limits.Flight))
+	out.Add("config", strconv.Itoa(c.Lines), strconv.Itoa(c.Conns), number(c.Limits.Payload), number(c.Limits.Option), strconv.Itoa(c.Limits.Flight))
 	for _, l := range s.Lines {
-		out.add(lineWords(l)...)
+		out.Add(lineWords(l)...)
 	}
-	return out.text.String()
+	return out.Text()
 }
 
 // shown gives a line as Print writes it, or a word that is no line, if it does not.
@@ -46,17 +36,6 @@ func shown(l api.ScriptLine) string {
 
 // number gives the digits of a number of any width.
 func number[N uint16 | uint32 | uint64](v N) string { return octet.Decimal(uint64(v)) }
-
-func flagsOf(x api.Export) uint32 {
-	return bit(x.ReadOnly, flagReadOnly) | bit(x.Rotational, flagRotational) | bit(x.Private, flagPrivate) | bit(x.Tracked, flagTracked)
-}
-
-func bit(has bool, flag uint32) uint32 {
-	if has {
-		return flag
-	}
-	return 0
-}
 
 func lineWords(l api.ScriptLine) []string {
 	switch l.Kind {
