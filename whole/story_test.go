@@ -174,8 +174,8 @@ func (y *story) listen(s api.Step, a api.Answer) {
 }
 
 func (y *story) took(conn int, x api.Took) {
-	if x.Kind != api.TookRequest {
-		return
+	if _, known := y.goes[conn]; x.Kind != api.TookRequest || !known {
+		return // of a connection without a client nothing is done, nor does anything leave
 	}
 	q := x.Task.Req
 	if x.Refused {
