@@ -186,7 +186,7 @@ func (y *story) looked(r api.Report, lines int, ask []api.ScriptLine) {
 	y.mayBe(r.Exports)
 	ahead := statuses(y.t, r.Heard[lines:lines+len(ask)], watched[:])
 	for i, x := range ahead {
-		y.true_("ahead of the crash", watched[i], x, y.v)
+		y.holds("ahead of the crash", watched[i], x, y.v)
 		for at := range x.unsaved {
 			if !x.unsaved[at] && r.Exports[watched[i]][at] != y.v[watched[i]][at] {
 				y.t.Fatalf("%s: byte %d of export %d was not unsaved, and is another behind a crash (W11)", y.what, at, watched[i])
@@ -198,7 +198,7 @@ func (y *story) looked(r api.Report, lines int, ask []api.ScriptLine) {
 		y.t.Fatalf("%s: %d statuses behind a crash", y.what, len(behind))
 	}
 	for i, x := range behind {
-		y.true_("behind the crash", watched[i], x, r.Exports)
+		y.holds("behind the crash", watched[i], x, r.Exports)
 		if x.hole == nil || x.unsaved == nil || (x.dirty == nil) != (watched[i] != tracked) {
 			y.t.Fatalf("%s: a status without a context", y.what)
 		}
@@ -210,8 +210,8 @@ func (y *story) looked(r api.Report, lines int, ask []api.ScriptLine) {
 	}
 }
 
-// true_ holds a status against bytes (W11).
-func (y *story) true_(when string, export int, x state, v [][]byte) {
+// holds looks whether what a status tells of bytes is true (W11).
+func (y *story) holds(when string, export int, x state, v [][]byte) {
 	y.t.Helper()
 	for at, hole := range x.hole {
 		if hole && v[export][at] != 0 {

@@ -17,10 +17,10 @@ type key struct {
 
 // A due is what a client must hear of a request.
 type due struct {
-	code   uint32
-	data   []byte // of a read
-	free   bool   // what it read is not known
-	error_ bool   // it was refused, with whatever error
+	code    uint32
+	data    []byte // of a read
+	free    bool   // what it read is not known
+	refused bool   // it was refused, with whatever error
 }
 
 // A story is what the promises say of a script, line by line.
@@ -180,7 +180,7 @@ func (y *story) took(conn int, x api.Took) {
 	q := x.Task.Req
 	if x.Refused {
 		y.met["refused"]++
-		y.dues[key{conn, q.Cookie}] = due{error_: true}
+		y.dues[key{conn, q.Cookie}] = due{refused: true}
 		return
 	}
 	y.tasks[key{conn, uint64(x.Task.ID)}] = q
@@ -302,7 +302,7 @@ func (y *story) answered(l api.ScriptLine, v api.Event) {
 	switch {
 	case !is:
 		y.t.Fatalf("%s: a request is answered that was not done, or twice (W6)", y.what)
-	case d.error_:
+	case d.refused:
 		if v.Code == 0 {
 			y.t.Fatalf("%s: a request that was refused went well (W4)", y.what)
 		}
